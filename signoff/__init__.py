@@ -1,0 +1,1 @@
+"""Timing sign-off for clocked circuits."""
