@@ -21,6 +21,33 @@ EXAMPLES = {
 >>> parse_deck("cell inv(a) = !a { pin a 1..3; }")
 ((('inv', ('a',), ('not', ('name', 'a')), (('a', 1, 3),)),), ())
 ''',
+    "printer, 1": '''
+>>> from signoff.printer import show_expression
+>>> show_expression(("and", ("name", "a"), ("and", ("name", "b"), ("const", True))))
+'a & (b & 1)'
+''',
+    "tables, 1": '''
+>>> from signoff.tables import table_of
+>>> table_of(("and", ("name", "a"), ("not", ("name", "b"))), ("a", "b"))
+(False, True, False, False)
+''',
+    "tables, 2": '''
+>>> from signoff.tables import cubes
+>>> cubes((False, False, False, True), False)
+[(-1, 0), (0, -1)]
+''',
+    "diagrams, 1": '''
+>>> from signoff.diagrams import Diagrams
+>>> d = Diagrams()
+>>> d.both(d.variable(0), d.negate(d.variable(0)))
+0
+''',
+    "diagrams, 2": '''
+>>> from signoff.diagrams import Diagrams
+>>> d = Diagrams()
+>>> d.least(d.either(d.variable(0), d.variable(2)), 3)
+(False, False, True)
+''',
 }
 
 

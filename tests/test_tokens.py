@@ -118,6 +118,19 @@ class Tokens(unittest.TestCase):
         for token in KEYWORDS + NAMES + SIGNS + BAD_RUNS:
             self.assertIs(is_numeral(token), False, token)
 
+    def test_single_characters(self):
+        for character in "abcdefghijklmnopqrstuvwxyz":
+            self.assertIs(is_name(character), True)
+            self.assertIs(is_numeral(character), False)
+            self.assertIs(is_numeral("1" + character), False)
+            self.assertIs(is_name("1" + character), False)
+            self.assertIs(is_name("a" + character), True)
+        for character in "0123456789":
+            self.assertIs(is_name(character), False)
+            self.assertIs(is_numeral(character), True)
+            self.assertIs(is_numeral("1" + character), True)
+            self.assertIs(is_name("a" + character), True)
+
     def test_bad_pieces_are_neither_names_nor_numerals(self):
         for token in BAD_RUNS + BAD_CHARACTERS + ["aB", "a-b", "a/b", "a b"]:
             self.assertIs(is_name(token), False, token)
