@@ -55,7 +55,7 @@ def cone(circuit, names):
 
 def gate_order(circuit):
     """The least list of all gates in which each one stands behind those whose nets it reads."""
-    return _order(_gates_read(circuit[1]))
+    return least_order(_gates_read(circuit[1]))
 
 
 def check_nets(circuit, names):
@@ -70,7 +70,7 @@ def check_pin_range(pair):
     """Raises BadRange if a pair cannot be the range of a pin's delay."""
     low, high = pair
     if low < 0 or low + LEAST_SPREAD > high:
-        raise BadRange(f"{low}..{high} cannot be the delay of a pin")
+        raise BadRange("a pin has a range that is not allowed")
 
 
 def check_reg(reg):
@@ -78,10 +78,40 @@ def check_reg(reg):
     name, _, edge, out, setup, hold, _ = reg
     for low, high in (edge, out):
         if low < 0 or low > high:
-            raise BadRange(f"{low}..{high} cannot be a range of reg {name}")
+            raise BadRange(f"a range of reg {name} is not allowed")
     # Else what is stored could depend on itself.
     if setup < 0 or hold < 0 or hold >= out[1]:
-        raise BadRange(f"setup {setup} or hold {hold} is not allowed for reg {name}")
+        raise BadRange(f"setup or hold of reg {name} is not allowed")
+
+
+def with_ranges(circuit, rows):
+    """The circuit with other ranges: a list or tuple of pairs for each gate."""
+    inputs, gates, regs, outputs = circuit
+    changed = [(name, table, nets, tuple(row)) for (name, table, nets, _), row in zip(gates, rows)]
+    return inputs, tuple(changed), regs, outputs
+
+
+def least_order(needed):
+    """The least list of indexes in which each one stands behind those that it needs.
+
+    `needed` has a list of such indexes for each index. Those that depend on a cycle are left out.
+    """
+    followers = [[] for _ in needed]
+    for k, others in enumerate(needed):
+        for other in others:
+            followers[other].append(k)
+    missing = [len(others) for others in needed]
+    # An ascending list is a heap.
+    ready = [k for k, many in enumerate(missing) if many == 0]
+    order = []
+    while ready:
+        k = heappop(ready)
+        order.append(k)
+        for follower in followers[k]:
+            missing[follower] -= 1
+            if missing[follower] == 0:
+                heappush(ready, follower)
+    return order
 
 
 def _all_names(circuit):
@@ -106,7 +136,7 @@ def _check_counts(gate):
 def _check_paths(gates):
     """Raises Looped if there is a cycle of gates, and TooDeep if a path is too long."""
     read = _gates_read(gates)
-    order = _order(read)
+    order = least_order(read)
     if len(order) < len(gates):
         raise Looped(tuple([gates[g][0] for g in _cycle(read, order)]))
     lengths = [0] * len(gates)
@@ -129,26 +159,6 @@ def _gates_read(gates):
     """For each gate, the list of the gates whose nets it reads, once for each pin."""
     places = {gate[0]: g for g, gate in enumerate(gates)}
     return [[places[net] for net in gate[2] if net in places] for gate in gates]
-
-
-def _order(read):
-    """The least order of the gates; those that depend on a cycle are left out."""
-    followers = [[] for _ in read]
-    for g, others in enumerate(read):
-        for other in others:
-            followers[other].append(g)
-    missing = [len(others) for others in read]
-    # An ascending list is a heap.
-    ready = [g for g, many in enumerate(missing) if many == 0]
-    order = []
-    while ready:
-        g = heappop(ready)
-        order.append(g)
-        for follower in followers[g]:
-            missing[follower] -= 1
-            if missing[follower] == 0:
-                heappush(ready, follower)
-    return order
 
 
 def _cycle(read, order):

@@ -48,6 +48,31 @@ EXAMPLES = {
 >>> d.least(d.either(d.variable(0), d.variable(2)), 3)
 (False, False, True)
 ''',
+    "meaning": '''
+>>> from signoff.meaning import trace
+>>> inverter = ("n", (True, False), ("q",), ((1, 3),))
+>>> trace(((), (inverter,), (("q", "n", (0, 0), (1, 2), 0, 0, False),), ()), [(), ()])
+[(False,), (True,), (False,)]
+''',
+    "decks": '''
+>>> from signoff.parser import parse_deck
+>>> from signoff.decks import flatten
+>>> d = parse_deck("cell inv(a) = !a { pin a 1..3; } module m(x) -> (y) { gate y = inv(x); } module top(i) -> (o) { part u: (o) = m(i); }")
+>>> flatten(d, "top")
+(('i',), (('u/y', (True, False), ('i',), ((1, 3),)),), (), (('o', 'u/y'),))
+''',
+    "wires, 1": '''
+>>> from signoff.wires import WireTree
+>>> t = WireTree([(0, (1, 2), (1, 1)), (1, (3, 3), (2, 4))])
+>>> t.delay(2, [2, 3], [1, 4])
+22
+''',
+    "wires, 2": '''
+>>> from signoff.wires import WireTree
+>>> t = WireTree([(0, (1, 2), (1, 1)), (1, (3, 3), (2, 4))])
+>>> t.delay_range(2, unit=4)
+(2, 6)
+''',
 }
 
 
