@@ -73,6 +73,46 @@ EXAMPLES = {
 >>> t.delay_range(2, unit=4)
 (2, 6)
 ''',
+    "waveforms, 1": '''
+>>> from signoff.waveforms import Waveform
+>>> w = Waveform(False, [3, 5]) | Waveform(True, [4])
+>>> (w.start, w.changes())
+(True, [5])
+''',
+    "waveforms, 2": '''
+>>> from signoff.waveforms import Waveform
+>>> Waveform.of_bits(-1, [True, True, False], after=True).changes()
+[-1, 1, 2]
+''',
+    "runs": '''
+>>> from signoff.runs import Run
+>>> from signoff.waveforms import Waveform
+>>> c = (("a",), (("n", (True, False), ("a",), ((1, 3),)),), (), ())
+>>> Run(c, [Waveform(False, [0])], [[[1, 3]]]).bits("n", 0, 4)
+[True, True, False, False, False]
+''',
+    "arrivals": '''
+>>> from signoff.arrivals import Arrivals
+>>> both = (False, False, False, True)
+>>> c = (("a", "b"), (("g", both, ("a", "b"), ((1, 3), (2, 6))), ("h", both, ("g", "b"), ((1, 4), (1, 4)))), (), ())
+>>> a = Arrivals(c, [(0, 0), (0, 1)])
+>>> (a.early("h"), a.late("h"), a.worst_paths("h", 2))
+(1, 11, [(1, ((0, 1), (1, 0))), (0, ((0, 0), (1, 0)))])
+''',
+    "settled, 1": '''
+>>> from signoff.settled import Settled
+>>> c = (("a", "b"), (("n", (True, False), ("b",), ((5, 7),)), ("g", (False, False, False, True), ("a", "n"), ((1, 3), (1, 3)))), (), ())
+>>> s = Settled(c, [(0, None), (0, None)])
+>>> (s.late("g"), s.late_for("g", (False, False)), s.late_for("g", (True, False)))
+(10, 3, 10)
+''',
+    "settled, 2": '''
+>>> from signoff.settled import Settled
+>>> c = (("a",), (("n", (True, False), ("a",), ((5, 7),)), ("g", (False, False, False, True), ("a", "n"), ((1, 3), (1, 3)))), (), ())
+>>> s = Settled(c, [(0, None)])
+>>> (s.late("g"), s.late_for("g", (False,)), s.loose_vector("g", 5), s.loose_vector("g", 9))
+(10, 3, (True,), (True,))
+''',
 }
 
 

@@ -200,6 +200,45 @@ class Files(unittest.TestCase):
                 elif isinstance(node, ast.arg):
                     self.assertNotIn(node.arg, BUILTIN_NAMES, "L15")
 
+    def test_names_of_imports_and_classes(self):
+        for _, _, tree in self.each():
+            taken = {alias.name for node in tree.body if isinstance(node, ast.ImportFrom) for alias in node.names}
+            taken |= {node.name for node in tree.body if isinstance(node, ast.ClassDef)}
+            for node in ast.walk(tree):
+                if isinstance(node, ast.arg):
+                    self.assertNotIn(node.arg, taken, "L15")
+                elif isinstance(node, ast.Name) and not isinstance(node.ctx, ast.Load):
+                    self.assertNotIn(node.id, taken, "L15")
+
+    def test_methods_and_attributes(self):
+        methods, stored, generators, every = set(), set(), [], []
+        for _, _, tree in self.each():
+            for node in ast.walk(tree):
+                if isinstance(node, ast.ClassDef):
+                    own = {part.name for part in node.body if isinstance(part, ast.FunctionDef)}
+                    kept = {part.attr for part in ast.walk(node)
+                            if isinstance(part, ast.Attribute) and isinstance(part.ctx, ast.Store)}
+                    self.assertFalse(own & kept, f"L18 {node.name}")
+                    methods |= own
+                    stored |= kept
+                if isinstance(node, ast.FunctionDef):
+                    every.append(node.name)
+                    if any(isinstance(part, (ast.Yield, ast.YieldFrom)) for part in ast.walk(node)):
+                        generators.append(node.name)
+        # Narrower than L18: no name is both, in different classes neither.
+        self.assertFalse(methods & stored, "L18")
+        self.assertFalse((methods | stored) & {"add", "discard", "sort", "keys", "format"}, "L24, L25, L26")
+        for name in generators:
+            self.assertEqual(every.count(name), 1, "L23")
+
+    def test_stars_in_calls(self):
+        plain = (ast.Name, ast.Attribute, ast.List, ast.Tuple, ast.Load, ast.Constant)
+        for node in self.each_node(ast.Call):
+            for part in node.args:
+                if isinstance(part, ast.Starred):
+                    for inner in ast.walk(part.value):
+                        self.assertIsInstance(inner, plain, "L7")
+
     def test_errors(self):
         for node in self.each_node(ast.Raise):
             if node.exc is not None:
