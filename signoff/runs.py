@@ -2,15 +2,15 @@
 
 from signoff.ascending import count_until
 from signoff.circuits import gate_order, sources
-from signoff.errors import BadRange, UnknownName, WrongCount
+from signoff.errors import WrongCount
 from signoff.meaning import settle
-from signoff.tables import look_up
+from signoff.playback import Playback, check_delay_counts, check_delays
 from signoff.waveforms import holds
 
 MOST_SPANS = 100
 
 
-class Run:
+class Run(Playback):
     """A run of a circuit.
 
     The spans of a net are pairs (first, last) of times. A net surely changes at no time
@@ -18,13 +18,13 @@ class Run:
     """
 
     def __init__(self, circuit, waves, delays):
-        _check_counts(circuit, waves, delays)
-        _check_delays(circuit, delays)
+        roots = sources(circuit)
+        if len(waves) != len(roots):
+            raise WrongCount("there is not one waveform for each source")
+        check_delay_counts(circuit, delays)
+        check_delays(circuit, delays)
+        super().__init__(circuit, {net: wave for net, wave in zip(roots, waves)}, delays)
         self._waves = list(waves)
-        self._roots = {net: wave for net, wave in zip(sources(circuit), waves)}
-        self._gates = {}
-        for (name, table, nets, _), rows in zip(circuit[1], delays):
-            self._gates[name] = (table, [(net, list(row)) for net, row in zip(nets, rows)])
         self._before = settle(circuit, [wave.start for wave in waves])
         self._spans = {net: [(time, time) for time in wave.changes()] for net, wave in self._roots.items()}
         for g in gate_order(circuit):
@@ -66,10 +66,6 @@ class Run:
         """Whether each source has its value of the vector at all times of its window."""
         return all([holds(wave, value, window) for wave, value, window in zip(self._waves, vector, windows)])
 
-    def _check_net(self, net):
-        if net not in self._before:
-            raise UnknownName(f"{net} is not a net")
-
     def _gate_spans(self, name):
         """The spans of a gate, when those of its nets are known."""
         moved = [(first + min(row), last + max(row)) for net, row in self._gates[name][1]
@@ -93,51 +89,8 @@ class Run:
         many = count_until(self._firsts[net], time)
         return net, min(time, self._spans[net][many - 1][1]) if many > 0 else None
 
-    def _found(self, net, time, known):
-        """The value of a net at a time; `known` keeps the values of all spots that were looked at."""
-        goal = self._spot(net, time)
-        waiting = [goal]
-        while waiting:
-            spot = waiting.pop()
-            if spot in known:
-                continue
-            missing = [cause for cause in self._causes(spot) if cause not in known]
-            if missing:
-                # The spot comes up again when what it needs is known.
-                waiting.append(spot)
-                waiting.extend(missing)
-            else:
-                known[spot] = self._plain_value(spot, known)
-        return known[goal]
-
     def _causes(self, spot):
-        """The spots whose values the value of a spot is computed from."""
-        net, time = spot
-        if time is None or net in self._roots:
-            return []
-        return [self._spot(other, time - row[time % len(row)]) for other, row in self._gates[net][1]]
+        return [] if spot[1] is None else super()._causes(spot)
 
     def _plain_value(self, spot, known):
-        """The value of a spot, when those of its causes are known."""
-        net, time = spot
-        if time is None:
-            return self._before[net]
-        if net in self._roots:
-            return self._roots[net].value_at(time)
-        return look_up(self._gates[net][0], [known[cause] for cause in self._causes(spot)])
-
-
-def _check_counts(circuit, waves, delays):
-    gates = circuit[1]
-    if len(waves) != len(sources(circuit)) or len(delays) != len(gates):
-        raise WrongCount("there is not one waveform for each source, or not one list for each gate")
-    for gate, rows in zip(gates, delays):
-        if len(rows) != len(gate[2]) or min([len(row) for row in rows], default=1) == 0:
-            raise WrongCount(f"there is not one list of delays for each pin of gate {gate[0]}")
-
-
-def _check_delays(circuit, delays):
-    for gate, rows in zip(circuit[1], delays):
-        for (low, high), row in zip(gate[3], rows):
-            if min(row) < low or max(row) > high:
-                raise BadRange(f"a delay of gate {gate[0]} is out of its range")
+        return self._before[spot[0]] if spot[1] is None else super()._plain_value(spot, known)

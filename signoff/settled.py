@@ -39,6 +39,11 @@ class Settled:
         """The least vector for which a net is loose at a time, None if there is none."""
         return self._diagrams.least(self._reference(net, time), self._many)
 
+    def first_loose(self, net, low, high):
+        """The least time from low to high at which a net is loose for some vector, None if there is none."""
+        self._check_net(net)
+        return self._looseness.timeline(net).first_loose(low, high)
+
     def count_loose(self, net, time):
         """The number of vectors for which a net is loose at a time."""
         return self._diagrams.count(self._reference(net, time), self._many)

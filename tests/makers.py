@@ -2,6 +2,8 @@
 
 import itertools
 
+from signoff.clocked import Clocked
+
 BUFFER = (False, True)
 INVERTER = (True, False)
 BOTH = (False, False, False, True)
@@ -94,3 +96,50 @@ def all_paths(circuit, net):
     g = gates[net]
     return [(k, (*pins, (g, pin))) for pin, other in enumerate(circuit[1][g][2])
             for k, pins in all_paths(circuit, other)]
+
+
+def random_holds(source, circuit, most=6):
+    """A pair (since, until) for each input."""
+    found = []
+    for _ in circuit[0]:
+        since = source.randrange(-2, most)
+        found.append((since, since - source.randrange(4)))
+    return found
+
+
+def random_clocked(source, *, period=None, **sizes):
+    """A clocked circuit with any margins."""
+    circuit = random_circuit(source, **{"inputs": 1, "regs": 2, "gates": 4, "low": 3, "spread": 3, **sizes})
+    return Clocked(circuit, source.randrange(3, 26) if period is None else period, random_holds(source, circuit))
+
+
+def calm_reg(source, name, net):
+    """A register that changes so late after an edge that it disturbs no other one."""
+    edge = source.randrange(3)
+    out = source.randrange(6, 9)
+    return reg(name, net, (edge, edge + source.randrange(2)), (out, out + source.randrange(3)),
+               source.randrange(3), source.randrange(3), source.random() < 0.5)
+
+
+def clean_clocked(source, **sizes):
+    """A clean clocked circuit, most often of the least period for which it is clean."""
+    inputs, gates, regs, outputs = random_circuit(
+        source, **{"inputs": 2, "regs": 3, "gates": 6, "low": 3, "spread": 4, **sizes})
+    circuit = (inputs, gates, tuple(calm_reg(source, one[0], one[1]) for one in regs), outputs)
+    holds = [(since, since - source.randrange(2)) for since in (source.randrange(6, 9) for _ in inputs)]
+    period = 4
+    while not Clocked(circuit, period, holds).is_clean():
+        period += 1
+    return Clocked(circuit, period + source.choice((0, 0, 0, 1, 9)), holds)
+
+
+def random_play(source, clocked, cycles):
+    """The arguments of a clocked run but for the clocked circuit."""
+    circuit = clocked.circuit()
+    rows = [tuple(source.random() < 0.5 for _ in circuit[0]) for _ in range(cycles)]
+    edges = [[source.randint(*one[2]) for _ in range(source.randrange(1, 4))] for one in circuit[2]]
+    shakes = [[source.random() < 0.5 for _ in range(source.randrange(1, 6))] for _ in source_names(circuit)]
+    guesses = [[source.random() < 0.5 for _ in range(source.randrange(1, 4))] for _ in circuit[2]]
+    delays = [[[source.randint(*pair) for _ in range(source.randrange(1, 5))] for pair in gate[3]]
+              for gate in circuit[1]]
+    return rows, {"edges": edges, "shakes": shakes, "guesses": guesses, "delays": delays}

@@ -113,6 +113,30 @@ EXAMPLES = {
 >>> (s.late("g"), s.late_for("g", (False,)), s.loose_vector("g", 5), s.loose_vector("g", 9))
 (10, 3, (True,), (True,))
 ''',
+    "clocked": '''
+>>> from signoff.clocked import Clocked
+>>> c = ((), (("n", (True, False), ("q",), ((1, 3),)),), (("q", "n", (0, 2), (1, 2), 1, 1, False),), ())
+>>> k = Clocked(c, 9, [])
+>>> (k.windows(0), k.needed(0), k.margins(0), k.violations())
+([(4, 10)], (8, 12), (1, -2), [(0, 11, (False,))])
+''',
+    "clockruns": '''
+>>> from signoff.clocked import Clocked
+>>> from signoff.clockruns import ClockedRun
+>>> c = ((), (("n", (True, False), ("q",), ((3, 5),)),), (("q", "n", (0, 1), (1, 3), 1, 1, False),), ())
+>>> r = ClockedRun(Clocked(c, 20, []), [(), (), ()], edges=[[0, 1]], shakes=[[True]], guesses=[[False]], delays=[[[4]]])
+>>> [r.state(k) for k in range(4)]
+[(False,), (True,), (False,), (True,)]
+''',
+    "schedules": '''
+>>> from signoff.clocked import Clocked
+>>> from signoff.schedules import constraints, find_shifts
+>>> buffer = (False, True)
+>>> c = (("a",), (("g", buffer, ("p",), ((10, 12),)),), (("p", "a", (0, 0), (1, 2), 0, 0, False), ("q", "g", (0, 0), (1, 2), 0, 0, False)), ())
+>>> k = Clocked(c, 9, [(3, 1)])
+>>> (find_shifts(k), constraints(k)[:2])
+([0, 5], [('setup', 0, 0, 6), ('setup', 1, 1, -5)])
+''',
 }
 
 

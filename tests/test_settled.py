@@ -10,37 +10,13 @@ from signoff.corners import within
 from signoff.errors import Refused, UnknownName, WrongCount
 from signoff.runs import Run
 from signoff.settled import Settled
-from signoff.tables import forced
 from signoff.waveforms import Waveform
 from tests.helpers import few_calls
 from tests.makers import (BOTH, BUFFER, EITHER, EXOR, INVERTER, nets_of, plain_settle, random_circuit, random_range,
                           reg, source_names, vectors)
+from tests.plain import PlainSettled
 
 TIMES = range(-9, 26)
-
-
-class Plain:
-    """The rule of point 7.1 for one vector, by its words."""
-
-    def __init__(self, circuit, windows, vector):
-        self.values = plain_settle(circuit, vector)
-        self.windows = dict(zip(source_names(circuit), windows))
-        self.gates = {gate[0]: gate for gate in circuit[1]}
-        self.known = {}
-
-    def is_settled(self, net, time):
-        if net in self.windows:
-            since, until = self.windows[net]
-            return (since is None or since <= time) and (until is None or time < until)
-        if (net, time) not in self.known:
-            _, table, nets, ranges = self.gates[net]
-            partial = tuple(int(self.values[other]) if self.is_known(other, time, pair) else -1
-                            for other, pair in zip(nets, ranges))
-            self.known[net, time] = forced(table, partial) is not None
-        return self.known[net, time]
-
-    def is_known(self, net, time, pair):
-        return all(self.is_settled(net, other) for other in range(time - pair[1], time - pair[0] + 1))
 
 
 def random_window(source, kind):
@@ -108,7 +84,7 @@ class Rule(unittest.TestCase):
         for circuit, windows in cases(1, 60):
             settled = Settled(circuit, windows)
             for vector in vectors(circuit):
-                plain = Plain(circuit, windows, vector)
+                plain = PlainSettled(circuit, windows, vector)
                 for net, time in itertools.product(nets_of(circuit), TIMES):
                     self.assertIs(settled.is_settled(net, time, vector), plain.is_settled(net, time))
 
@@ -167,7 +143,7 @@ class AllVectors(unittest.TestCase):
     def test_against_every_vector(self):
         for circuit, windows in cases(6, 60):
             settled = Settled(circuit, windows)
-            plains = [(vector, Plain(circuit, windows, vector)) for vector in vectors(circuit)]
+            plains = [(vector, PlainSettled(circuit, windows, vector)) for vector in vectors(circuit)]
             for net, time in itertools.product(nets_of(circuit), TIMES):
                 loose = [vector for vector, plain in plains if not plain.is_settled(net, time)]
                 self.assertIs(settled.is_sure(net, time), not loose)
@@ -208,7 +184,7 @@ class Ends(unittest.TestCase):
         for net in nets_of(circuit):
             latest = None
             for vector in vectors(circuit):
-                plain = Plain(circuit, windows, vector)
+                plain = PlainSettled(circuit, windows, vector)
                 loose = [time for time in self.SPAN if not plain.is_settled(net, time)]
                 late = loose[-1] + 1 if loose else None
                 self.assertEqual(settled.late_for(net, vector), late)
@@ -220,7 +196,7 @@ class Ends(unittest.TestCase):
         for net in nets_of(circuit):
             earliest = None
             for vector in vectors(circuit):
-                plain = Plain(circuit, windows, vector)
+                plain = PlainSettled(circuit, windows, vector)
                 early = min((time for time in self.SPAN if not plain.is_settled(net, time)), default=None)
                 self.assertEqual(settled.early_for(net, vector), early)
                 earliest = early if earliest is None or (early is not None and early < earliest) else earliest
@@ -306,7 +282,7 @@ class Witnesses(unittest.TestCase):
         for circuit, windows in cases(11, 40):
             settled = Settled(circuit, windows)
             for vector in vectors(circuit):
-                plain = Plain(circuit, windows, vector)
+                plain = PlainSettled(circuit, windows, vector)
                 for net, time in itertools.product(nets_of(circuit), TIMES[::2]):
                     if plain.is_settled(net, time):
                         self.assertRaises(Refused, settled.witness, net, time, vector)
@@ -322,7 +298,7 @@ class Witnesses(unittest.TestCase):
         for circuit, windows in cases(12, 60, gates=8, low=1, spread=2, pins=2):
             settled = Settled(circuit, windows)
             vector = vectors(circuit)[len(windows) % 3]
-            plain = Plain(circuit, windows, vector)
+            plain = PlainSettled(circuit, windows, vector)
             for net, time in itertools.product(nets_of(circuit), TIMES):
                 if not plain.is_settled(net, time):
                     self.check_witness(settled, circuit, windows, net, time, vector)
@@ -439,7 +415,7 @@ class Errors(unittest.TestCase):
             for at, net in enumerate(nets_of(circuit)[:7]):
                 for time, vector in itertools.product(times, vectors(circuit)):
                     is_loose = not settled.is_settled(net, time, vector)
-                    self.assertIs(is_loose, not Plain(circuit, windows, vector).is_settled(net, time))
+                    self.assertIs(is_loose, not PlainSettled(circuit, windows, vector).is_settled(net, time))
                     loose[time][at] += is_loose
                 self.assertEqual([loose[time][at] for time in times],
                                  [settled.count_loose(net, time) for time in times])
