@@ -31,7 +31,7 @@ def tokenize(text):
 
 def is_name(token):
     """Whether a token is a name; keywords are none."""
-    return _is_word(token) and token not in KEYWORDS
+    return is_word(token) and token not in KEYWORDS
 
 
 def is_numeral(token):
@@ -41,14 +41,15 @@ def is_numeral(token):
     return all([character in DIGITS for character in token])
 
 
-def _is_word(token):
+def is_word(token):
+    """Whether a token is a name or a keyword."""
     return token[0] in LETTERS and all([character in RUN_CHARACTERS for character in token])
 
 
 def _token_at(text, at):
     """The token that begins at an index, where neither a space nor a comment stands."""
     run = text[at:_run_end(text, at)]
-    if run and (_is_word(run) or is_numeral(run)):
+    if run and (is_word(run) or is_numeral(run)):
         return run
     for sign in SIGNS:
         if text.startswith(sign, at):

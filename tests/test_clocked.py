@@ -126,12 +126,14 @@ class Violations(unittest.TestCase):
 
     def test_wide_edges(self):
         circuit = (("a",), (), (reg("q", "a", (2, 6), (9, 9), 1, 1),), ())
-        for holds, wanted in (((21, 8), []), ((22, 8), [(0, 21, (False, False))]), ((21, 7), [(0, 27, (False, False))])):
+        for holds, wanted in (((21, 8), []), ((22, 8), [(0, 21, (False, False))]),
+                              ((21, 7), [(0, 27, (False, False))])):
             self.assertEqual(Clocked(circuit, 20, [holds]).violations(), wanted)
 
     def test_huge_needed_times(self):
         far = 10 ** 40
-        circuit = (("a",), (("g", BUFFER, ("a",), ((far, 2 * far),)),), (reg("q", "g", (0, far), (9, far), far, 5),), ())
+        circuit = (("a",), (("g", BUFFER, ("a",), ((far, 2 * far),)),), (reg("q", "g", (0, far), (9, far), far, 5),),
+                   ())
         self.assertEqual(Clocked(circuit, 9 * far, [(far, 6)]).violations(), [])
         self.assertEqual(Clocked(circuit, 9 * far, [(far, 5)]).violations(), [(0, 10 * far + 5, (False, False))])
 

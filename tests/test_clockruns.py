@@ -168,8 +168,10 @@ class Shows(unittest.TestCase):
 
     def test_long_paths_and_many_cycles(self):
         gates = [("g0", INVERTER, ("q",), ((1, 3),))]
-        gates += [(f"g{k}", EXOR, (f"g{k - 1}", f"g{k - 1}" if k % 2 else "a"), ((1, 3), (0, 2))) for k in range(1, 100)]
-        circuit = (("a",), tuple(gates), (reg("q", "g99", (0, 5), (1, 4), 2, 1), reg("p", "q", (0, 0), (9, 9), 1, 1)), ())
+        gates += [(f"g{k}", EXOR, (f"g{k - 1}", f"g{k - 1}" if k % 2 else "a"), ((1, 3), (0, 2))) for k in range(1,
+                                                                                                                 100)]
+        circuit = (("a",), tuple(gates), (reg("q", "g99", (0, 5), (1, 4), 2, 1), reg("p", "q", (0, 0), (9, 9), 1, 1)),
+                   ())
         with few_calls():
             run = run_of(circuit, 400, [(0, 0)], [(k % 3 == 0,) for k in range(40)], [[0, 5, 2], [0]],
                          [[True, False]] * 3, [[True], [False]], [[[1, 2, 3], [0, 2]][:len(gate[2])] for gate in gates])
@@ -182,7 +184,8 @@ class Shows(unittest.TestCase):
 
     def test_large_times(self):
         far = 10 ** 30
-        circuit = (("a",), (("g", INVERTER, ("a",), ((far, 2 * far),)),), (reg("q", "g", (far, far + 2), (1, 4), 2, 2),), ())
+        circuit = (("a",), (("g", INVERTER, ("a",), ((far, 2 * far),)),),
+                   (reg("q", "g", (far, far + 2), (1, 4), 2, 2),), ())
         run = run_of(circuit, 9 * far, [(far, 5)], [(True,), (False,)], [[far, far + 2]], [[False], [True]], [[True]],
                      [[[far, 2 * far]]])
         self.assertEqual([run.state(k) for k in range(3)], [(False,), (False,), (True,)])

@@ -137,6 +137,40 @@ EXAMPLES = {
 >>> (find_shifts(k), constraints(k)[:2])
 ([0, 5], [('setup', 0, 0, 6), ('setup', 1, 1, -5)])
 ''',
+    "reports": r'''
+>>> from signoff.reports import write_report
+>>> write_report(("top", 9, (("u/q", 1, -2, (11, (False, True))), ("p", None, None, None))))
+'module top period 9\nreg u/q setup 1 hold -2 loose at 11 for 01\nreg p setup none hold none ok\nnot clean\n'
+''',
+    "rewrites": '''
+>>> from signoff.rewrites import move_forward
+>>> both = (False, False, False, True)
+>>> times = ((0, 1), (1, 2), 1, 0)
+>>> c = (("a", "b"), (("g", both, ("p", "q"), ((1, 3), (1, 4))),), (("p", "a", *times, True), ("q", "b", *times, True)), (("y", "g"),))
+>>> move_forward(c, 0)
+(('a', 'b'), (('g/d', (False, False, False, True), ('a', 'b'), ((1, 3), (1, 4))),), (('g', 'g/d', (0, 1), (1, 2), 1, 0, True),), (('y', 'g'),))
+''',
+    "sizing": '''
+>>> from signoff.sizing import cheapest
+>>> c = (("a",), (("n", (True, False), ("a",), ((5, 9),)), ("m", (True, False), ("n",), ((5, 9),))), (), ())
+>>> sizes = [[(1, ((5, 9),)), (4, ((2, 4),))], [(1, ((5, 9),)), (3, ((3, 5),))]]
+>>> cheapest(c, [(0, 0)], {"m": 14}, sizes)
+(4, [0, 1])
+''',
+    "records": r'''
+>>> from signoff.records import write_record
+>>> write_record((-1, 1, (("u/q", (False, False, True)),)))
+'from -1 to 1\nu/q 2x0 1x1\n'
+''',
+    "sessions": '''
+>>> from signoff.clocked import Clocked
+>>> from signoff.sessions import Session
+>>> c = ((), (("n", (True, False), ("q",), ((1, 3),)),), (("q", "n", (0, 2), (1, 2), 1, 1, False),), ())
+>>> s = Session(Clocked(c, 9, []))
+>>> s.edit(("range", 0, 0, 4, 6))
+>>> (s.slowest(), s.undo(), s.slowest(), s.undone())
+((0, -2), True, (0, 1), 1)
+''',
 }
 
 

@@ -40,7 +40,8 @@ class Reports(unittest.TestCase):
         # low/d is late at 4 + 6 or 6 + 4, high/d at 6 + 4 + 6; both must be settled from 29 to 32.
         # low/d is early at 33 + 2 or 32 + 3, high/d at 33 + 2.
         report = sign_off(COUNTER, "top", 30, [(4, 2)])
-        self.assertEqual(report, ("top", 30, (("low/q", 19, 2, None), ("high/q", 13, 2, None), ("kept", None, None, None))))
+        self.assertEqual(report, ("top", 30, (("low/q", 19, 2, None), ("high/q", 13, 2, None),
+                                              ("kept", None, None, None))))
         self.assertIs(is_clean_report(report), True)
         self.assertEqual([type(part) for part in report], [str, int, tuple])
 
@@ -58,11 +59,13 @@ class Reports(unittest.TestCase):
         for _ in range(60):
             period, since = source.randrange(8, 40), source.randrange(8)
             holds = [(since, since - source.randrange(4))]
-            early, late = source.choice(((1, 1), (1, 2), (0, 1), (2, 3))), source.choice(((1, 1), (3, 2), (5, 4), (2, 1)))
+            early, late = source.choice(((1, 1), (1, 2), (0, 1), (2, 3))), source.choice(((1, 1), (3, 2), (5, 4),
+                                                                                          (2, 1)))
             report = sign_off(COUNTER, "top", period, holds, early=early, late=late)
             clocked = Clocked(derated(flatten(parse_deck(COUNTER), "top"), early, late), period, holds)
             violations = {r: (time, vector) for r, time, vector in clocked.violations()}
-            wanted = tuple((one[0], *clocked.margins(r), violations.get(r)) for r, one in enumerate(clocked.circuit()[2]))
+            wanted = tuple((one[0], *clocked.margins(r), violations.get(r)) for r,
+                           one in enumerate(clocked.circuit()[2]))
             self.assertEqual(report, ("top", period, wanted))
             self.assertIs(is_clean_report(report), clocked.is_clean())
             kinds[clocked.is_clean()] += 1
@@ -71,7 +74,8 @@ class Reports(unittest.TestCase):
     def test_ratios(self):
         text = CELLS + """module m(a) -> (g) { gate g = inv(a); reg q = g edge 0..0 out 1..2 setup 0 hold 0 start 0; }"""
         for early, late, wanted in (((1, 1), (1, 1), (7, 0)), ((1, 1), (2, 1), (4, 0)), ((0, 5), (1, 1), (7, -1)),
-                                    ((1, 2), (4, 3), (6, -1)), ((2, 2), (10, 9), (6, 0)), ((99, 100), (301, 300), (6, -1))):
+                                    ((1, 2), (4, 3), (6, -1)), ((2, 2), (10, 9), (6, 0)),
+                                    ((99, 100), (301, 300), (6, -1))):
             self.assertEqual(sign_off(text, "m", 10, [(0, 0)], early=early, late=late)[2][0][1:3], wanted)
 
     def test_no_registers(self):

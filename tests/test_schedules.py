@@ -65,7 +65,8 @@ def calm_clocked(source):
     inputs, gates, regs, outputs = random_circuit(source, inputs=1, regs=3, gates=5, low=6, spread=6)
     regs = [calm_reg(source, one[0], one[1]) for one in regs]
     later = source.randrange(12)
-    circuit = (inputs, gates, tuple((*one[:3], (one[3][0] + later, one[3][1] + later), *one[4:]) for one in regs), outputs)
+    circuit = (inputs, gates, tuple((*one[:3], (one[3][0] + later, one[3][1] + later), *one[4:]) for one in regs),
+               outputs)
     holds = [(since + later, until + later) for since, until in random_holds(source, circuit, 9)]
     return Clocked(circuit, source.randrange(8, 50), holds)
 
