@@ -77,7 +77,7 @@ class Clocked:
         self._check_reg(r)
         violation = self._violation(r)
         if violation is None:
-            raise Refused("the register has no violation")
+            raise Refused("the reg has no violation")
         time, vector = violation
         return self._settled.witness(self._net(r), time, vector)
 
@@ -86,11 +86,13 @@ class Clocked:
         first, last = self.needed(r)
         late = self._since_arrivals.late(self._net(r))
         early = self._until_arrivals.early(self._net(r))
-        return None if late is None else first - late, None if early is None else early - last - 1
+        setup = None if late is None else first - late
+        hold = None if early is None else early - last - 1
+        return setup, hold
 
     def _check_reg(self, r):
         if r < 0 or r >= len(self._circuit[2]):
-            raise BadArgument("there is no such register")
+            raise BadArgument("there is no such reg")
 
     def _net(self, r):
         """The net that a register stores."""
@@ -98,6 +100,10 @@ class Clocked:
 
     def _violation(self, r):
         """The least needed time at which the net of a register is loose, and the least vector for it, or None."""
+        setup, hold = self.margins(r)
+        if (setup is None or setup >= 0) and (hold is None or hold >= 0):
+            # Then the net is settled when it must be; to compute when it is settled may take much longer.
+            return None
         first, last = self.needed(r)
         time = self._settled.first_loose(self._net(r), first, last)
         return None if time is None else (time, self._settled.loose_vector(self._net(r), time))

@@ -108,7 +108,7 @@ class ClockedRun(Playback):
     def edge_time(self, r, k):
         """The time of the k-th edge of a register."""
         if r < 0 or r >= len(self._outputs):
-            raise BadArgument("there is no such register")
+            raise BadArgument("there is no such reg")
         if k < 1 or k > self._many:
             raise BadArgument("there is no such edge")
         return self._outputs[r].edge_time(k)
@@ -143,7 +143,7 @@ class ClockedRun(Playback):
 def _check_counts(circuit, rows, edges, shakes, guesses):
     inputs, _, regs, _ = circuit
     if len(edges) != len(regs) or len(shakes) != len(sources(circuit)) or len(guesses) != len(regs):
-        raise WrongCount("there is not one list for each register or source")
+        raise WrongCount("there is not one list for each reg or source")
     if min([len(row) for row in [*edges, *shakes, *guesses]], default=1) == 0:
         raise WrongCount("a list is empty")
     for row in rows:

@@ -116,9 +116,9 @@ def _read_row(line):
 
 
 def _read_piece(piece):
-    number, sign, character = piece.partition("x")
+    number, _, character = piece.partition("x")
     many = integer_of(number)
     bit = bit_of(character)
-    if sign == "" or many is None or many < 1 or bit is None:
+    if many is None or many < 1 or bit is None:
         raise BadRecord("a piece is wrong")
     return many, bit

@@ -45,8 +45,8 @@ def _shown_violation(violation):
     if violation is None:
         return "ok"
     time, vector = violation
-    bits = "".join([shown_bit(bit) for bit in vector])
-    return f"loose at {time} for {bits or '-'}"
+    bits = "".join([shown_bit(bit) for bit in vector]) if vector else "-"
+    return f"loose at {time} for {bits}"
 
 
 def _read_head(line):
@@ -63,9 +63,9 @@ def _read_head(line):
 def _read_row(line):
     words = line.split(" ")
     if len(words) < 7 or (words[0], words[2], words[4]) != ("reg", "setup", "hold"):
-        raise BadReport("a line is not that of a register")
+        raise BadReport("a line is not that of a reg")
     if not all([_is_name(piece) for piece in words[1].split("/")]):
-        raise BadReport("the name of a register is wrong")
+        raise BadReport("the name of a reg is wrong")
     return words[1], _read_margin(words[3]), _read_margin(words[5]), _read_violation(words[6:])
 
 
@@ -105,7 +105,7 @@ def _check_rows(rows):
     """Raises BadReport if two names are equal, or two vectors have different lengths."""
     names = [row[0] for row in rows]
     if len(set(names)) < len(names):
-        raise BadReport("two registers have the same name")
+        raise BadReport("two regs have the same name")
     lengths = [len(row[3][1]) for row in rows if row[3] is not None]
     if len(set(lengths)) > 1:
         raise BadReport("the vectors have different lengths")

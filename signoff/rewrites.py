@@ -49,14 +49,18 @@ def move_forward(circuit, g):
 
 def _smaller(gate, constants):
     """The gate without the pins that are constant or do not matter."""
+    # From the last pin on, so that the indexes of the others stay.
+    varying = gate
     for pin in range(len(gate[2]) - 1, -1, -1):
         net = gate[2][pin]
         if net in constants:
-            gate = _without_pin(gate, pin, constants[net])
-    for pin in range(len(gate[2]) - 1, -1, -1):
-        if pin not in depends_on(gate[1]):
-            gate = _without_pin(gate, pin, False)
-    return gate
+            varying = _without_pin(varying, pin, constants[net])
+    needed = depends_on(varying[1])
+    found = varying
+    for pin in range(len(varying[2]) - 1, -1, -1):
+        if pin not in needed:
+            found = _without_pin(found, pin, False)
+    return found
 
 
 def _without_pin(gate, pin, value):
@@ -110,9 +114,9 @@ def _check_move(circuit, gate, read):
     """Raises Refused if the registers that a gate reads cannot be moved over it."""
     name, _, nets, _ = gate
     if len(nets) == 0 or len(read) < len(nets):
-        raise Refused(f"gate {name} does not read registers only")
+        raise Refused(f"gate {name} does not read regs only")
     if any([reg[2:6] != read[0][2:6] for reg in read]):
-        raise Refused(f"the registers that gate {name} reads have different times")
+        raise Refused(f"the regs that gate {name} reads have different times")
     taken = sources(circuit) + [other[0] for other in circuit[1]]
     if name + "/d" in taken:
         raise Refused(f"there is a net {name}/d")

@@ -10,7 +10,7 @@ def shifted(clocked, shifts):
     """The clocked circuit in which the edge range of each register is shifted."""
     inputs, gates, regs, outputs = clocked.circuit()
     if len(shifts) != len(regs):
-        raise WrongCount("there is not one shift for each register")
+        raise WrongCount("there is not one shift for each reg")
     if min(shifts, default=0) < 0:
         raise BadArgument("a shift is negative")
     moved = tuple([moved_edge(reg, by) for reg, by in zip(regs, shifts)])

@@ -38,7 +38,7 @@ def _with_period(clocked, period):
 def _with_shift(clocked, r, by):
     inputs, gates, regs, outputs = clocked.circuit()
     if r < 0 or r >= len(regs):
-        raise BadArgument("there is no such register")
+        raise BadArgument("there is no such reg")
     moved = moved_edge(regs[r], by)
     if moved[2][0] < 0:
         raise BadRange("an edge range would begin below 0")

@@ -17,8 +17,7 @@ class Search:
         self._limits = limits
         self._costs = [[cost for cost, _ in rows] for rows in sizes]
         times = self._arrivals.required(limits)
-        self._pins = [[pin for pin, net in enumerate(nets) if self._arrivals.late(net) is not None]
-                      if times[name] is not None else [] for name, _, nets, _ in circuit[1]]
+        self._pins = [self._varying_pins(gate) if times[gate[0]] is not None else [] for gate in circuit[1]]
         self._highs = [[[ranges[pin][1] for pin in pins] for _, ranges in rows]
                        for rows, pins in zip(sizes, self._pins)]
         self._candidates = [_worth_trying(costs, highs) for costs, highs in zip(self._costs, self._highs)]
@@ -46,6 +45,10 @@ class Search:
                 at -= 1
         return found
 
+    def _varying_pins(self, gate):
+        """The pins of a gate whose nets have arrivals."""
+        return [pin for pin, net in enumerate(gate[2]) if self._arrivals.late(net) is not None]
+
     def _set(self, g, highs):
         for pin, high in zip(self._pins[g], highs):
             self._arrivals.set_range(g, pin, 0, high)
@@ -66,7 +69,7 @@ class Search:
             has_changed = False
             for g, candidates in enumerate(list(self._candidates)):
                 if len(candidates) > 1:
-                    kept = [k for k in candidates if self._is_possible(g, k)]
+                    kept = [k for k in candidates if self._meets_with(g, k)]
                     if len(kept) == 0:
                         return False
                     has_changed = has_changed or len(kept) < len(candidates)
@@ -74,7 +77,8 @@ class Search:
                     self._set_fastest(g)
         return True
 
-    def _is_possible(self, g, k):
+    def _meets_with(self, g, k):
+        """Gives a gate one of its sizes, and tells whether the limits are met now."""
         self._set(g, self._highs[g][k])
         return self._meets()
 
@@ -84,7 +88,7 @@ class Search:
         while picks[g] + 1 < len(candidates):
             picks[g] += 1
             is_cheaper = found is None or self._least_cost(picks) < found[0]
-            if is_cheaper and self._is_possible(g, candidates[picks[g]]):
+            if is_cheaper and self._meets_with(g, candidates[picks[g]]):
                 return True
         picks[g] = -1
         self._set_fastest(g)

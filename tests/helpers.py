@@ -55,6 +55,28 @@ def few_calls(many=300):
         sys.setrecursionlimit(before)
 
 
+def near_text(source, text, characters):
+    """A text in which one character was put in, left out or replaced."""
+    at = source.randrange(len(text))
+    other = source.choice(characters)
+    return source.choice((text[:at] + other + text[at:], text[:at] + text[at + 1:],
+                          text[:at] + other + text[at + 1:]))
+
+
+def accepted_texts(texts, read, write, error):
+    """The number of texts that are accepted; each of them must be the written form of what was read."""
+    many = 0
+    for text in texts:
+        try:
+            found = read(text)
+        except error:
+            continue
+        many += 1
+        if write(found) != text:
+            raise AssertionError(f"{text!r} was accepted")
+    return many
+
+
 def failures(text):
     """The number of examples in a text, and of those that fail."""
     test = doctest.DocTestParser().get_doctest(text, {}, "example", None, 0)

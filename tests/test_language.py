@@ -190,7 +190,9 @@ class Files(unittest.TestCase):
         for title, _, tree in self.each():
             for found in bound_names(tree):
                 self.assertNotIn(found, BARRED, "L17")
-                self.assertNotRegex(found, r"\A_(wall|pe_|dcw_|enum_|cm_|lay_|law_|stub_|sre)", "L12")
+                self.assertNotRegex(found, r"\A_(wall|pe_|dcw_|enum_|cm_|twin_re_|lay_|law_|stub_|sre)", "L12")
+                self.assertNotRegex(
+                    found, r"\A_(cold|tuplegetter|outside|record|written_out|member_names)[0-9_]*\Z", "L12")
             for node in ast.walk(tree):
                 if isinstance(node, ast.Name):
                     if node.id in BUILTIN_NAMES:
@@ -230,6 +232,17 @@ class Files(unittest.TestCase):
         self.assertFalse((methods | stored) & {"add", "discard", "sort", "keys", "format"}, "L24, L25, L26")
         for name in generators:
             self.assertEqual(every.count(name), 1, "L23")
+
+    def test_super(self):
+        calls = 0
+        for node in self.each_node(ast.Attribute):
+            made = node.value
+            if isinstance(made, ast.Call) and isinstance(made.func, ast.Name) and made.func.id == "super":
+                self.assertEqual((made.args, made.keywords), ([], []), "L5")
+                self.assertTrue(node.attr == "__init__" or not node.attr.startswith("__"), "L5")
+                calls += 1
+        names = [node for node in self.each_node(ast.Name) if node.id == "super"]
+        self.assertEqual(len(names), calls, "L5")
 
     def test_stars_in_calls(self):
         plain = (ast.Name, ast.Attribute, ast.List, ast.Tuple, ast.Load, ast.Constant)

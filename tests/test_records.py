@@ -11,6 +11,7 @@ from signoff.records import cut, glued, read_record, record_of, same_meaning, wr
 from signoff.runs import Run
 from signoff.tokens import KEYWORDS
 from signoff.waveforms import Waveform
+from tests.helpers import accepted_texts, near_text
 from tests.makers import INVERTER, nets_of, random_clocked, random_play, reg
 
 CIRCUIT = (("a",), (("n", INVERTER, ("a",), ((1, 3),)),), (reg("q", "n"),), ())
@@ -174,21 +175,10 @@ class Reading(unittest.TestCase):
         self.assertEqual(read_record("from 0 to 100000\n"), (0, 100000, ()))
 
     def test_every_other_text_that_is_near(self):
+        # A text that is accepted is the written form of what was read.
         source = random.Random(3)
-        accepted = 0
-        for _ in range(6000):
-            text = write_record(random_record(source))
-            at = source.randrange(len(text))
-            other = source.choice("01-/ \nx_29q")
-            text = source.choice((text[:at] + other + text[at:], text[:at] + text[at + 1:],
-                                  text[:at] + other + text[at + 1:]))
-            try:
-                record = read_record(text)
-            except BadRecord:
-                continue
-            accepted += 1
-            self.assertEqual(write_record(record), text)
-        self.assertGreater(accepted, 300)
+        texts = [near_text(source, write_record(random_record(source)), "01-/ \nx_29q") for _ in range(6000)]
+        self.assertGreater(accepted_texts(texts, read_record, write_record, BadRecord), 300)
 
 
 class SameMeaning(unittest.TestCase):

@@ -7,6 +7,7 @@ from signoff.errors import BadReport
 from signoff.flow import is_clean_report
 from signoff.reports import read_report, write_report
 from signoff.tokens import KEYWORDS
+from tests.helpers import accepted_texts, near_text
 
 REPORT = ("top", 9, (("u/q", 1, -2, (11, (False, True))), ("p", None, None, None)))
 TEXT = """module top period 9
@@ -174,20 +175,8 @@ class Reading(unittest.TestCase):
     def test_every_other_text_that_is_near(self):
         # A text that is accepted is the written form of what was read.
         source = random.Random(2)
-        accepted = 0
-        for _ in range(6000):
-            text = write_report(random_report(source))
-            at = source.randrange(len(text))
-            other = source.choice("01-/ \nanx_9")
-            text = source.choice((text[:at] + other + text[at:], text[:at] + text[at + 1:],
-                                  text[:at] + other + text[at + 1:]))
-            try:
-                report = read_report(text)
-            except BadReport:
-                continue
-            accepted += 1
-            self.assertEqual(write_report(report), text)
-        self.assertGreater(accepted, 500)
+        texts = [near_text(source, write_report(random_report(source)), "01-/ \nanx_9") for _ in range(6000)]
+        self.assertGreater(accepted_texts(texts, read_report, write_report, BadReport), 500)
 
 
 if __name__ == "__main__":
